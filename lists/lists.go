@@ -1,0 +1,24 @@
+// Package lists has what the packages of several layers do with lists.
+package lists
+
+import "iter"
+
+// Rising yields all lists of so many numbers from 0 to the end less 1 that rise, in lexicographic order; each one is new.
+func Rising(many, end int) iter.Seq[[]int] { return risingFrom(0, many, end) }
+
+// risingFrom yields those whose numbers are from the first one on.
+func risingFrom(first, many, end int) iter.Seq[[]int] {
+	return func(yield func([]int) bool) {
+		if many == 0 {
+			yield(nil)
+			return
+		}
+		for n := first; n <= end-many; n++ {
+			for others := range risingFrom(n+1, many-1, end) {
+				if !yield(append([]int{n}, others...)) {
+					return
+				}
+			}
+		}
+	}
+}

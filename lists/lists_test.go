@@ -1,0 +1,63 @@
+package lists_test
+
+import (
+	"slices"
+	"testing"
+
+	"glister/lists"
+)
+
+// all collects the lists of Rising.
+func all(many, end int) [][]int {
+	var found [][]int
+	for list := range lists.Rising(many, end) {
+		found = append(found, list)
+	}
+	return found
+}
+
+func TestRising(t *testing.T) {
+	for _, x := range []struct {
+		many, end int
+		want      [][]int
+	}{
+		{0, 0, [][]int{{}}}, {0, 3, [][]int{{}}}, {1, 0, nil}, {4, 3, nil}, {1, 3, [][]int{{0}, {1}, {2}}}, {3, 3, [][]int{{0, 1, 2}}},
+		{2, 4, [][]int{{0, 1}, {0, 2}, {0, 3}, {1, 2}, {1, 3}, {2, 3}}},
+	} {
+		if found := all(x.many, x.end); !slices.EqualFunc(found, x.want, slices.Equal) {
+			t.Errorf("Rising of %d below %d: %v, not %v", x.many, x.end, found, x.want)
+		}
+	}
+}
+
+// Each list that rises is there once, in lexicographic order.
+func TestAllThatRise(t *testing.T) {
+	for end := range 9 {
+		total := 0
+		for many := range end + 1 {
+			found := all(many, end)
+			total += len(found)
+			for i, list := range found {
+				if len(list) != many || !slices.IsSorted(list) || i > 0 && slices.Compare(found[i-1], list) >= 0 {
+					t.Errorf("Rising of %d below %d: %v", many, end, found)
+				}
+			}
+		}
+		if total != 1<<end {
+			t.Errorf("%d lists of numbers below %d", total, end)
+		}
+	}
+}
+
+// The loop can be left, and a list can be changed, without any effect on the others.
+func TestLeftEarly(t *testing.T) {
+	for list := range lists.Rising(2, 5) {
+		if list[0] == 1 {
+			break
+		}
+		list[0], list[1] = 9, 9
+	}
+	if found := all(2, 3); !slices.EqualFunc(found, [][]int{{0, 1}, {0, 2}, {1, 2}}, slices.Equal) {
+		t.Errorf("Rising afterwards: %v", found)
+	}
+}
