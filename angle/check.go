@@ -1,6 +1,9 @@
 package angle
 
-import "glister/api"
+import (
+	"glister/api"
+	"glister/lists"
+)
 
 // exceeds tells whether the net has more of something than its limit.
 func (n Net) exceeds() bool {
@@ -9,7 +12,7 @@ func (n Net) exceeds() bool {
 
 // valid tells whether a net that exceeds no limit is as the document describes.
 func (n Net) valid() bool {
-	return len(n.Angles) > 0 && n.Triangles >= 0 && n.Circles >= 0 && every(n.Angles, n.isAngle)
+	return len(n.Angles) > 0 && n.Triangles >= 0 && n.Circles >= 0 && lists.Every(n.Angles, n.isAngle)
 }
 
 // isAngle tells whether the angle can be one of the net.
@@ -37,22 +40,4 @@ func risesBelow(list []int, end int) bool {
 		next = n + 1
 	}
 	return true
-}
-
-// every tells whether each element passes the test.
-func every[T any](list []T, test func(T) bool) bool {
-	for _, x := range list {
-		if !test(x) {
-			return false
-		}
-	}
-	return true
-}
-
-// smallest returns the smallest of the numbers.
-func smallest(first int, others ...int) int {
-	for _, n := range others {
-		first = min(first, n)
-	}
-	return first
 }

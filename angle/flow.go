@@ -1,6 +1,9 @@
 package angle
 
-import "glister/api"
+import (
+	"glister/api"
+	"glister/lists"
+)
 
 // places is how many sums a net can have, and what is outside of them.
 const places = 2*api.MaxAngleSums + 1
@@ -45,7 +48,7 @@ func (f *flow) push(start int) (moved int, reached marks) {
 	search = func(sum, most int) int {
 		reached[sum] = true
 		if f.over[sum] < 0 {
-			some := smallest(most, -f.over[sum])
+			some := lists.Smallest(most, -f.over[sum])
 			f.over[sum] += some
 			return some
 		}
@@ -53,7 +56,7 @@ func (f *flow) push(start int) (moved int, reached marks) {
 			if reached[a.to] || f.left[a] == 0 {
 				continue
 			}
-			if some := search(a.to, smallest(most, f.left[a])); some > 0 {
+			if some := search(a.to, lists.Smallest(most, f.left[a])); some > 0 {
 				f.left[a] -= some
 				f.left[a.back()] += some
 				return some

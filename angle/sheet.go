@@ -4,6 +4,7 @@ import (
 	"sort"
 
 	"glister/api"
+	"glister/lists"
 )
 
 // rooms has the room of each angle.
@@ -21,7 +22,7 @@ type sheet struct {
 // room returns the room of the angle with the error.
 func (a Angle) room(err int) Range {
 	far := err * a.Weight
-	return Range{max(0, a.Read-far), smallest(api.MaxAngleRead, a.Read+far)}
+	return Range{max(0, a.Read-far), lists.Smallest(api.MaxAngleRead, a.Read+far)}
 }
 
 // within returns the net at work with the error.
@@ -131,7 +132,7 @@ func (s sheet) truth() []int {
 // isFree tells whether the others allow each number of the angle: they do if they allow the first one and the last one, as no number between two others is left out.
 func (s sheet) isFree(angle int) bool {
 	ends := []int{whole().Lo, whole().Hi}
-	return every(ends, func(n int) bool { return s.with(angle, Range{n, n}).closes() })
+	return lists.Every(ends, func(n int) bool { return s.with(angle, Range{n, n}).closes() })
 }
 
 // controlled returns all angles that are controlled, rising.

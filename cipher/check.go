@@ -1,6 +1,9 @@
 package cipher
 
-import "glister/api"
+import (
+	"glister/api"
+	"glister/lists"
+)
 
 // exceeds tells whether some list of the book is longer than its limit.
 func (b Book) exceeds() bool {
@@ -11,7 +14,7 @@ func (b Book) exceeds() bool {
 func (b Book) valid() bool {
 	return b.Size >= api.MinCipherSize && b.Size <= api.MaxCipherSize && isPrime(b.Size) &&
 		b.Words >= 1 && b.Words <= b.Size &&
-		len(b.Keys) > 0 && every(b.Keys, b.isKey) && len(b.Days) > 0 && every(b.Days, b.hasKey)
+		len(b.Keys) > 0 && lists.Every(b.Keys, b.isKey) && len(b.Days) > 0 && lists.Every(b.Days, b.hasKey)
 }
 
 // isPrime tells whether a number above 1 is a prime number.
@@ -49,16 +52,6 @@ func isMost(n int) bool { return below(n, api.MaxCipherDays+1) }
 
 // below tells whether the number is from 0 to the end less 1.
 func below(n, end int) bool { return 0 <= n && n < end }
-
-// every tells whether each element passes the test.
-func every[T any](list []T, test func(T) bool) bool {
-	for _, x := range list {
-		if !test(x) {
-			return false
-		}
-	}
-	return true
-}
 
 // least returns the smallest of the numbers.
 func least(first int, others ...int) int {

@@ -4,6 +4,7 @@ import (
 	"slices"
 
 	"glister/api"
+	"glister/lists"
 )
 
 // never stands for the day on which others can read what they never can.
@@ -24,7 +25,7 @@ func open(b Book, lost ...Loss) (desk, api.Errno) {
 	switch {
 	case len(lost) > api.MaxCipherLost:
 		return desk{}, api.ErrLimit
-	case !every(lost, d.isLoss):
+	case !lists.Every(lost, d.isLoss):
 		return desk{}, api.ErrRange
 	}
 	return d, api.OK
@@ -68,7 +69,7 @@ func (d desk) dispatch(day int, plain []int) []int {
 func (d desk) checkDispatch(day int, dispatch []int) api.Errno {
 	last := len(dispatch) - 1
 	switch {
-	case last < 1 || last > api.MaxCipherPlain+1 || !every(dispatch, d.isPlain):
+	case last < 1 || last > api.MaxCipherPlain+1 || !lists.Every(dispatch, d.isPlain):
 		return api.ErrForm
 	case dispatch[0] != d.indicator(day):
 		return api.ErrState

@@ -4,6 +4,7 @@ import (
 	"iter"
 
 	"glister/api"
+	"glister/lists"
 )
 
 // riddle has codes by an unknown key of a book, and what others guess of them.
@@ -23,7 +24,7 @@ func read(b Book, codes []int, guesses []Guess) (riddle, api.Errno) {
 	switch {
 	case len(codes) > api.MaxCipherPlain || len(guesses) > api.MaxCipherGuesses:
 		return riddle{}, api.ErrLimit
-	case !every(codes, d.isPlain) || !every(guesses, r.isGuess):
+	case !lists.Every(codes, d.isPlain) || !lists.Every(guesses, r.isGuess):
 		return riddle{}, api.ErrRange
 	}
 	return r, api.OK
@@ -35,7 +36,7 @@ func (r riddle) isGuess(g Guess) bool { return r.hasCode(g.At) && r.isPlain(g.Pl
 
 // agrees tells whether all guesses have their codes by the key.
 func (r riddle) agrees(c cog) bool {
-	return every(r.guesses, func(g Guess) bool { return c.code(g.Plain, g.At) == r.codes[g.At] })
+	return lists.Every(r.guesses, func(g Guess) bool { return c.code(g.Plain, g.At) == r.codes[g.At] })
 }
 
 // agreeing yields all keys of the size that agree, whether the book has them or not.

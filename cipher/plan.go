@@ -4,6 +4,7 @@ import (
 	"slices"
 
 	"glister/api"
+	"glister/lists"
 )
 
 // stuck are the changes if no plan is right: more than those of any plan.
@@ -74,7 +75,7 @@ func (d desk) isFree(key, day int) bool { return day < d.taken(key) }
 
 // isRight tells whether the list is a right plan.
 func (d desk) isRight(keys []int, most int) bool {
-	if len(keys) != len(d.Days) || !every(keys, d.hasKey) {
+	if len(keys) != len(d.Days) || !lists.Every(keys, d.hasKey) {
 		return false
 	}
 	var used uses
@@ -84,7 +85,7 @@ func (d desk) isRight(keys []int, most int) bool {
 			return false
 		}
 	}
-	return every(used[:], func(many int) bool { return many <= most })
+	return lists.Every(used[:], func(many int) bool { return many <= most })
 }
 
 // changesOf returns the changes of a plan.

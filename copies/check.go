@@ -1,14 +1,17 @@
 package copies
 
-import "glister/api"
+import (
+	"glister/api"
+	"glister/lists"
+)
 
 // exceeds tells whether some list of the post is longer than its limit.
 func (p Post) exceeds() bool {
-	return len(p.Sends) > api.MaxCopiesSends || len(p.Routes) > api.MaxCopiesRoutes || !every(p.Routes, Route.isShort)
+	return len(p.Sends) > api.MaxCopiesSends || len(p.Routes) > api.MaxCopiesRoutes || !lists.Every(p.Routes, Route.isShort)
 }
 
 func (r Route) isShort() bool {
-	return len(r.Legs) <= api.MaxCopiesLegs && every(r.Legs, Leg.isShort)
+	return len(r.Legs) <= api.MaxCopiesLegs && lists.Every(r.Legs, Leg.isShort)
 }
 
 func (l Leg) isShort() bool { return len(l.Asleep) <= api.MaxCopiesAsleep }
@@ -16,15 +19,15 @@ func (l Leg) isShort() bool { return len(l.Asleep) <= api.MaxCopiesAsleep }
 // valid tells whether a post that exceeds no limit is as the document describes.
 func (p Post) valid() bool {
 	isHour := Range{0, api.MaxCopiesHour}.has
-	return len(p.Sends) > 0 && every(p.Sends, isHour) && rises(p.Sends) &&
-		len(p.Routes) > 0 && every(p.Routes, Route.valid) && isHour(p.Patience)
+	return len(p.Sends) > 0 && lists.Every(p.Sends, isHour) && rises(p.Sends) &&
+		len(p.Routes) > 0 && lists.Every(p.Routes, Route.valid) && isHour(p.Patience)
 }
 
-func (r Route) valid() bool { return len(r.Legs) > 0 && every(r.Legs, Leg.valid) }
+func (r Route) valid() bool { return len(r.Legs) > 0 && lists.Every(r.Legs, Leg.valid) }
 
 func (l Leg) valid() bool {
 	isNight := Range{0, api.MaxCopiesHour}.holds
-	return Range{0, api.MaxCopiesTakes}.holds(l.Takes) && every(l.Asleep, isNight)
+	return Range{0, api.MaxCopiesTakes}.holds(l.Takes) && lists.Every(l.Asleep, isNight)
 }
 
 // has tells whether the number is one of the range.
@@ -42,7 +45,7 @@ func (p Post) isEntry(e Entry) bool {
 
 // fits tells whether the truth has a list for each copy: of all legs, or an empty one if the copy can be lost.
 func (p Post) fits(t Truth) bool {
-	return len(t) == len(p.Sends) && every(t, p.fitsRoutes)
+	return len(t) == len(p.Sends) && lists.Every(t, p.fitsRoutes)
 }
 
 func (p Post) fitsRoutes(takes [][]int) bool {
@@ -58,7 +61,7 @@ func (p Post) fitsRoutes(takes [][]int) bool {
 }
 
 // allows tells whether all numbers of a truth that fits are in Takes of their legs.
-func (p Post) allows(t Truth) bool { return every(t, p.allowsTakes) }
+func (p Post) allows(t Truth) bool { return lists.Every(t, p.allowsTakes) }
 
 func (p Post) allowsTakes(takes [][]int) bool {
 	for i, r := range p.Routes {
@@ -93,22 +96,4 @@ func rises(list []int) bool {
 		}
 	}
 	return true
-}
-
-// every tells whether each element passes the test.
-func every[T any](list []T, test func(T) bool) bool {
-	for _, x := range list {
-		if !test(x) {
-			return false
-		}
-	}
-	return true
-}
-
-// smallest returns the smallest of the numbers.
-func smallest(first int, others ...int) int {
-	for _, n := range others {
-		first = min(first, n)
-	}
-	return first
 }

@@ -1,6 +1,10 @@
 package copies
 
-import "slices"
+import (
+	"slices"
+
+	"glister/lists"
+)
 
 // eve is a dispatch, with the hour at which the one before it is finished.
 type eve struct{ number, before int }
@@ -18,7 +22,7 @@ func (o office) explaining(entries []Entry) ([]int, bool) {
 		}
 		for hour := range o.dispatches[at.number].all() {
 			e := o.entry(at.number, hour, at.before)
-			if !every(entries, e.agrees) {
+			if !lists.Every(entries, e.agrees) {
 				continue
 			}
 			if rest, ok := search(eve{at.number + 1, e.At}); ok {
@@ -37,7 +41,7 @@ func (e Entry) agrees(other Entry) bool { return other.Number != e.Number || oth
 // explains tells whether all entries are so in the truth.
 func (o office) explains(t Truth, entries []Entry) bool {
 	journal := o.played(t)
-	return every(entries, func(e Entry) bool { return e == journal[e.Number] })
+	return lists.Every(entries, func(e Entry) bool { return e == journal[e.Number] })
 }
 
 // truth returns a truth in which the dispatches have the hours, which are some that they can have.

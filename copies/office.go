@@ -1,6 +1,9 @@
 package copies
 
-import "glister/api"
+import (
+	"glister/api"
+	"glister/lists"
+)
 
 // noPatience stands for the smallest patience if there is none.
 const noPatience = -1
@@ -23,7 +26,7 @@ func open(p Post, entries ...Entry) (office, api.Errno) {
 	switch {
 	case len(entries) > api.MaxCopiesEntries:
 		return office{}, api.ErrLimit
-	case !every(entries, p.isEntry):
+	case !lists.Every(entries, p.isEntry):
 		return office{}, api.ErrRange
 	}
 	o := office{Post: p, copies: map[sheet]hourSet{}}
@@ -62,7 +65,7 @@ func (o office) possible(number int) hourSet {
 			set[hour] = true
 		}
 	}
-	clear(set[smallest(never, lasts...)+1:])
+	clear(set[lists.Smallest(never, lasts...)+1:])
 	return set
 }
 
@@ -92,7 +95,7 @@ func (o office) played(t Truth) []Entry {
 		for route, r := range o.Routes {
 			copies = append(copies, r.hour(send, t[number][route]))
 		}
-		hours = append(hours, smallest(never, copies...))
+		hours = append(hours, lists.Smallest(never, copies...))
 	}
 	return o.journal(hours)
 }

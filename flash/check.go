@@ -4,6 +4,7 @@ import (
 	"strings"
 
 	"glister/api"
+	"glister/lists"
 )
 
 // The signs, as they are written.
@@ -23,12 +24,12 @@ const (
 
 func (m marks) have(b byte) bool { return strings.IndexByte(string(m), b) >= 0 }
 
-func (m marks) spell(s string) bool { return every([]byte(s), m.have) }
+func (m marks) spell(s string) bool { return lists.Every([]byte(s), m.have) }
 
 // valid tells whether a code that exceeds no limit is as the document describes.
 func (c Code) valid() bool {
 	fits := func(s string) bool { return 1 <= len(s) && len(s) <= api.MaxFlashSigns }
-	return len(c.Letters) > 0 && every(c.Letters, fits) && every(c.Letters, flashes.spell) && differ(c.Letters)
+	return len(c.Letters) > 0 && lists.Every(c.Letters, fits) && lists.Every(c.Letters, flashes.spell) && differ(c.Letters)
 }
 
 func (c Code) hasLetter(n int) bool { return 0 <= n && n < len(c.Letters) }
@@ -37,9 +38,9 @@ func (c Code) hasLetter(n int) bool { return 0 <= n && n < len(c.Letters) }
 func checkSigns(list ...string) api.Errno {
 	fits := func(s string) bool { return len(s) <= api.MaxFlashRead }
 	switch {
-	case !every(list, fits):
+	case !lists.Every(list, fits):
 		return api.ErrLimit
-	case !every(list, allSigns.spell):
+	case !lists.Every(list, allSigns.spell):
 		return api.ErrForm
 	}
 	return api.OK
@@ -49,26 +50,16 @@ func checkSigns(list ...string) api.Errno {
 func checkTexts(texts [][]int) api.Errno {
 	fits := func(text []int) bool { return len(text) <= api.MaxFlashText }
 	known := func(letter int) bool { return 0 <= letter && letter < api.MaxFlashLetters }
-	spelled := func(text []int) bool { return every(text, known) }
+	spelled := func(text []int) bool { return lists.Every(text, known) }
 	switch {
-	case len(texts) > api.MaxFlashTexts || !every(texts, fits):
+	case len(texts) > api.MaxFlashTexts || !lists.Every(texts, fits):
 		return api.ErrLimit
-	case len(texts) == 0 || !every(texts, spelled):
+	case len(texts) == 0 || !lists.Every(texts, spelled):
 		return api.ErrRange
 	case !decides(texts, 0, api.MaxFlashText):
 		return api.ErrTwice
 	}
 	return api.OK
-}
-
-// every tells whether each element passes the test.
-func every[T any](list []T, test func(T) bool) bool {
-	for _, x := range list {
-		if !test(x) {
-			return false
-		}
-	}
-	return true
 }
 
 // differ tells whether no two elements are equal.

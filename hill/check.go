@@ -4,6 +4,7 @@ import (
 	"slices"
 
 	"glister/api"
+	"glister/lists"
 )
 
 // span has the numbers from lo to hi, both included.
@@ -30,7 +31,7 @@ func (f frame) isStation(s Station) bool {
 
 func (f frame) isWall(w Wall) bool {
 	first, second := w.ends()
-	return every(slices.Concat(first[:], second[:]), f.place.has) && first != second &&
+	return lists.Every(slices.Concat(first[:], second[:]), f.place.has) && first != second &&
 		f.height.has(w.Base) && f.height.has(w.Top) && w.Base <= w.Top
 }
 
@@ -40,9 +41,9 @@ func (f frame) isCloud(c Cloud) bool {
 	return f.isWall(c.Wall) && f.hour.has(c.From) && f.hour.has(c.To) && c.From <= c.To
 }
 
-func (f frame) isCase(clouds []Cloud) bool { return every(clouds, f.isCloud) }
+func (f frame) isCase(clouds []Cloud) bool { return lists.Every(clouds, f.isCloud) }
 
-func (f frame) isSun(s Sun) bool { return every([]int{s.East, s.North, s.Up}, f.sun.has) }
+func (f frame) isSun(s Sun) bool { return lists.Every([]int{s.East, s.North, s.Up}, f.sun.has) }
 
 // exceeds tells whether some list of the land is longer than its limit.
 func (l Land) exceeds() bool {
@@ -55,8 +56,8 @@ func (l Land) exceeds() bool {
 func (l Land) valid() bool {
 	f := l.frame()
 	return len(l.Stations) > 0 && len(l.Cases) > 0 && len(l.Sun) > 0 &&
-		every(l.Stations, f.isStation) && l.apart() &&
-		every(l.Ridges, f.isRidge) && every(l.Cases, f.isCase) && every(l.Sun, f.isSun)
+		lists.Every(l.Stations, f.isStation) && l.apart() &&
+		lists.Every(l.Ridges, f.isRidge) && lists.Every(l.Cases, f.isCase) && lists.Every(l.Sun, f.isSun)
 }
 
 // apart tells whether no two stations have the same place.
@@ -67,16 +68,6 @@ func (l Land) apart() bool {
 			return false
 		}
 		taken[s.place()] = true
-	}
-	return true
-}
-
-// every tells whether each element passes the test.
-func every[T any](list []T, test func(T) bool) bool {
-	for _, x := range list {
-		if !test(x) {
-			return false
-		}
 	}
 	return true
 }

@@ -5,6 +5,7 @@ import (
 	"slices"
 
 	"glister/api"
+	"glister/lists"
 )
 
 // Calls that are about no case, or about no hour, open the land for the first one, which each valid land has.
@@ -29,7 +30,7 @@ func open(l Land, kase, hour int, stations ...int) (*site, api.Errno) {
 	}
 	cases, hours, known := span{0, len(l.Cases) - 1}, span{0, len(l.Sun) - 1}, span{0, len(l.Stations) - 1}
 	switch {
-	case !cases.has(kase) || !hours.has(hour) || !every(stations, known.has):
+	case !cases.has(kase) || !hours.has(hour) || !lists.Every(stations, known.has):
 		return nil, api.ErrRange
 	case len(stations) == 2 && stations[0] == stations[1]:
 		return nil, api.ErrTwice

@@ -1,6 +1,9 @@
 package lamp
 
-import "glister/api"
+import (
+	"glister/api"
+	"glister/lists"
+)
 
 // exceeds tells whether the store has more nights than the limit.
 func (s Store) exceeds() bool { return len(s.Nights) > api.MaxLampNights }
@@ -8,7 +11,7 @@ func (s Store) exceeds() bool { return len(s.Nights) > api.MaxLampNights }
 // valid tells whether a store that exceeds no limit is as the document describes.
 func (s Store) valid() bool {
 	return Range{1, api.MaxLampCap}.has(s.Cap) && Range{1, api.MaxLampCan}.has(s.Can) && Range{0, s.Cap}.holds(s.Start) &&
-		len(s.Nights) > 0 && every(s.Nights, Night.valid)
+		len(s.Nights) > 0 && lists.Every(s.Nights, Night.valid)
 }
 
 func (n Night) valid() bool {
@@ -57,22 +60,4 @@ func (r Range) has(n int) bool { return r.Lo <= n && n <= r.Hi }
 // holds tells whether the other one is a range, with both ends in this one.
 func (r Range) holds(other Range) bool {
 	return other.Lo <= other.Hi && r.has(other.Lo) && r.has(other.Hi)
-}
-
-// every tells whether each element passes the test.
-func every[T any](list []T, test func(T) bool) bool {
-	for _, x := range list {
-		if !test(x) {
-			return false
-		}
-	}
-	return true
-}
-
-// smallest returns the smallest of the numbers.
-func smallest(first int, others ...int) int {
-	for _, n := range others {
-		first = min(first, n)
-	}
-	return first
 }

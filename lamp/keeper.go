@@ -1,6 +1,9 @@
 package lamp
 
-import "glister/api"
+import (
+	"glister/api"
+	"glister/lists"
+)
 
 // keeper is a store at work by a plan, with the dips that were made.
 type keeper struct {
@@ -19,7 +22,7 @@ func open(s Store, p Plan, dips ...Dip) (keeper, api.Errno) {
 		return keeper{}, api.ErrRange
 	case len(dips) > api.MaxLampDips:
 		return keeper{}, api.ErrLimit
-	case !every(dips, s.isDip):
+	case !lists.Every(dips, s.isDip):
 		return keeper{}, api.ErrRange
 	}
 	return keeper{s, p, dips}, api.OK
@@ -37,7 +40,7 @@ func (p Plan) share(night int) share { return share{p.Cans[night], p.Wicks[night
 func (s Store) pass(at evening, by share, burn int) (left, back int, lit bool) {
 	n := s.Nights[at.night]
 	oil, needed := at.oil+by.cans*s.Can, n.Hours*by.wicks*burn
-	full := smallest(s.Cap, oil)
+	full := lists.Smallest(s.Cap, oil)
 	return max(0, full-needed), oil - full, full >= needed
 }
 

@@ -4,6 +4,7 @@ import (
 	"iter"
 
 	"glister/api"
+	"glister/lists"
 )
 
 // oils tells of each number of drops whether there can be as many.
@@ -24,7 +25,7 @@ func (o oils) all() iter.Seq[int] {
 func (o oils) bounds() Range {
 	b := Range{len(o), 0}
 	for oil := range o.all() {
-		b = Range{smallest(b.Lo, oil), oil}
+		b = Range{lists.Smallest(b.Lo, oil), oil}
 	}
 	return b
 }

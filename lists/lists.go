@@ -22,3 +22,21 @@ func risingFrom(first, many, end int) iter.Seq[[]int] {
 		}
 	}
 }
+
+// Every tells whether each element passes the test.
+func Every[T any](list []T, test func(T) bool) bool {
+	for _, x := range list {
+		if !test(x) {
+			return false
+		}
+	}
+	return true
+}
+
+// Smallest returns the smallest of the numbers.
+func Smallest(first int, others ...int) int {
+	for _, n := range others {
+		first = min(first, n)
+	}
+	return first
+}

@@ -61,3 +61,30 @@ func TestLeftEarly(t *testing.T) {
 		t.Errorf("Rising afterwards: %v", found)
 	}
 }
+
+func TestEvery(t *testing.T) {
+	for _, x := range []struct {
+		list []int
+		want bool
+	}{
+		{nil, true}, {[]int{2}, true}, {[]int{1}, false}, {[]int{2, 4, 6}, true}, {[]int{1, 4, 6}, false}, {[]int{2, 4, 5}, false},
+	} {
+		if got := lists.Every(x.list, func(n int) bool { return n%2 == 0 }); got != x.want {
+			t.Errorf("Every of %v: %v", x.list, got)
+		}
+	}
+}
+
+func TestSmallest(t *testing.T) {
+	for _, x := range []struct {
+		first  int
+		others []int
+		want   int
+	}{
+		{7, nil, 7}, {7, []int{8}, 7}, {7, []int{6}, 6}, {7, []int{9, -1, 8}, -1}, {-3, []int{0, -2}, -3}, {5, []int{4, 3, 2}, 2},
+	} {
+		if got := lists.Smallest(x.first, x.others...); got != x.want {
+			t.Errorf("Smallest of %d, %v: %d", x.first, x.others, got)
+		}
+	}
+}

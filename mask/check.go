@@ -3,6 +3,7 @@ package mask
 import (
 	"glister/api"
 	"glister/flash"
+	"glister/lists"
 )
 
 // exceeds tells whether some list of the log is longer than its limit.
@@ -12,8 +13,8 @@ func (l Log) exceeds() bool {
 
 // valid tells whether a log that exceeds no limit, and has a code, is as the document describes.
 func (l Log) valid() bool {
-	return 0 <= l.Errors && l.Errors <= api.MaxFlashErrors && len(l.Sees) > 0 && every(l.Sees, isSight) &&
-		every(l.Journal, l.isSent) && every(l.Records, l.isRecord)
+	return 0 <= l.Errors && l.Errors <= api.MaxFlashErrors && len(l.Sees) > 0 && lists.Every(l.Sees, isSight) &&
+		lists.Every(l.Journal, l.isSent) && lists.Every(l.Records, l.isRecord)
 }
 
 func isHour(hour int) bool { return 0 <= hour && hour <= api.MaxMaskHour }
@@ -39,21 +40,3 @@ func (l Log) isRecord(r Record) bool {
 
 // below tells whether the number is from 0 to the end less 1.
 func below(n, end int) bool { return 0 <= n && n < end }
-
-// every tells whether each element passes the test.
-func every[T any](list []T, test func(T) bool) bool {
-	for _, x := range list {
-		if !test(x) {
-			return false
-		}
-	}
-	return true
-}
-
-// smallest returns the smallest of the numbers.
-func smallest(first int, others ...int) int {
-	for _, n := range others {
-		first = min(first, n)
-	}
-	return first
-}

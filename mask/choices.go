@@ -5,6 +5,7 @@ import (
 	"slices"
 
 	"glister/api"
+	"glister/lists"
 )
 
 // choices has for each record what an assignment can have for it, if it has no dispatch twice.
@@ -41,7 +42,7 @@ func (c choices) fewest() int {
 				masks = append(masks, search(after))
 			}
 		}
-		known[at] = smallest(tooMany, masks...)
+		known[at] = lists.Smallest(tooMany, masks...)
 		return known[at]
 	}
 	return search(stage{})

@@ -1,6 +1,9 @@
 package relay
 
-import "glister/api"
+import (
+	"glister/api"
+	"glister/lists"
+)
 
 // hours has the hour from which on each station has the dispatch, and 0 for stations that the land does not have.
 type hours [api.MaxHillStations]int
@@ -13,7 +16,7 @@ func (s site) flash(before hours, kase, hour int) hours {
 			continue
 		}
 		for next := range s.reached(sight{moment{station, hour}, kase}) {
-			after[next] = smallest(before[next], hour+1)
+			after[next] = lists.Smallest(before[next], hour+1)
 		}
 	}
 	return after

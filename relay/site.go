@@ -6,6 +6,7 @@ import (
 
 	"glister/api"
 	"glister/hill"
+	"glister/lists"
 )
 
 // Calls that are about no case open the land for the first one, which each valid land has.
@@ -33,7 +34,7 @@ func open(l hill.Land, kase, hour int, stations ...int) (site, api.Errno) {
 		return site{}, e
 	}
 	s := site{Land: l, known: map[sight][]int{}, gone: None}
-	if !s.isCase(kase) || !s.isHour(hour) || !every(stations, s.isStation) {
+	if !s.isCase(kase) || !s.isHour(hour) || !lists.Every(stations, s.isStation) {
 		return site{}, api.ErrRange
 	}
 	return s, api.OK
@@ -95,22 +96,4 @@ func (s site) sticks(h Hop) (kase int, sticks bool) {
 func (s site) isSure(h Hop) bool {
 	_, sticks := s.sticks(h)
 	return !sticks
-}
-
-// every tells whether each element passes the test.
-func every[T any](list []T, test func(T) bool) bool {
-	for _, x := range list {
-		if !test(x) {
-			return false
-		}
-	}
-	return true
-}
-
-// smallest returns the smallest of the numbers.
-func smallest(first int, others ...int) int {
-	for _, n := range others {
-		first = min(first, n)
-	}
-	return first
 }
