@@ -24,20 +24,8 @@ func (n Net) isAngle(a Angle) bool {
 
 // hasCut tells whether the cut is one of the net.
 func (n Net) hasCut(c Cut) bool {
-	return risesBelow(c.Triangles, n.Triangles) && risesBelow(c.Circles, n.Circles)
+	return lists.RisesBelow(c.Triangles, n.Triangles) && lists.RisesBelow(c.Circles, n.Circles)
 }
 
 // has tells whether the number is one of the range.
 func (r Range) has(n int) bool { return r.Lo <= n && n <= r.Hi }
-
-// risesBelow tells whether the list rises, and has numbers from 0 to the end less 1.
-func risesBelow(list []int, end int) bool {
-	next := 0
-	for _, n := range list {
-		if n < next || n >= end {
-			return false
-		}
-		next = n + 1
-	}
-	return true
-}

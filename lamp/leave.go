@@ -8,18 +8,9 @@ import (
 
 // leave returns the smallest set.
 func (k keeper) leave() []int {
-	var found []int
 	// Without any dips each truth agrees, so some list is found.
-search:
-	for many := range len(k.dips) + 1 {
-		for list := range lists.Rising(many, len(k.dips)) {
-			if !k.without(list).contradict() {
-				found = list
-				break search
-			}
-		}
-	}
-	return found
+	left, _ := lists.Shortest(len(k.dips), func(left []int) bool { return !k.without(left).contradict() })
+	return left
 }
 
 // without returns the store at work without the dips that are left out.

@@ -23,6 +23,32 @@ func risingFrom(first, many, end int) iter.Seq[[]int] {
 	}
 }
 
+// Shortest returns the shortest list of numbers from 0 to the end less 1 that rises and passes the test; of several, the one that is lexicographically first.
+func Shortest(end int, test func([]int) bool) (list []int, found bool) {
+search:
+	for many := range end + 1 {
+		for some := range Rising(many, end) {
+			if test(some) {
+				list, found = some, true
+				break search
+			}
+		}
+	}
+	return list, found
+}
+
+// RisesBelow tells whether the list rises, and has numbers from 0 to the end less 1.
+func RisesBelow(list []int, end int) bool {
+	next := 0
+	for _, n := range list {
+		if n < next || n >= end {
+			return false
+		}
+		next = n + 1
+	}
+	return true
+}
+
 // Every tells whether each element passes the test.
 func Every[T any](list []T, test func(T) bool) bool {
 	for _, x := range list {

@@ -1,6 +1,7 @@
 package lists_test
 
 import (
+	"math"
 	"slices"
 	"testing"
 
@@ -59,6 +60,59 @@ func TestLeftEarly(t *testing.T) {
 	}
 	if found := all(2, 3); !slices.EqualFunc(found, [][]int{{0, 1}, {0, 2}, {1, 2}}, slices.Equal) {
 		t.Errorf("Rising afterwards: %v", found)
+	}
+}
+
+// The lists are tried in their order, each one once, up to the first one that passes.
+func TestShortest(t *testing.T) {
+	for _, x := range []struct {
+		what  string
+		end   int
+		test  func([]int) bool
+		want  []int
+		found bool
+		tried int
+	}{
+		{"any list", 3, func([]int) bool { return true }, nil, true, 1},
+		{"no list", 3, func([]int) bool { return false }, nil, false, 8},
+		{"no list of nothing", 0, func([]int) bool { return false }, nil, false, 1},
+		{"a list with 1", 3, func(list []int) bool { return slices.Contains(list, 1) }, []int{1}, true, 3},
+		{"a list with 3 or more as sum", 3, func(list []int) bool { return sum(list) >= 3 }, []int{1, 2}, true, 7},
+		{"a list with 2 or more as sum", 3, func(list []int) bool { return sum(list) >= 2 }, []int{2}, true, 4},
+		{"all numbers", 3, func(list []int) bool { return len(list) == 3 }, []int{0, 1, 2}, true, 8},
+	} {
+		tried := 0
+		list, found := lists.Shortest(x.end, func(list []int) bool {
+			tried++
+			return x.test(list)
+		})
+		if !slices.Equal(list, x.want) || found != x.found || tried != x.tried {
+			t.Errorf("Shortest with %s: %v, %v after %d, not %v, %v after %d", x.what, list, found, tried, x.want, x.found, x.tried)
+		}
+	}
+}
+
+func sum(list []int) int {
+	total := 0
+	for _, n := range list {
+		total += n
+	}
+	return total
+}
+
+func TestRisesBelow(t *testing.T) {
+	for _, x := range []struct {
+		list []int
+		end  int
+		want bool
+	}{
+		{nil, 0, true}, {nil, 3, true}, {nil, -1, true}, {[]int{0}, 0, false}, {[]int{0}, 1, true}, {[]int{-1}, 3, false}, {[]int{2}, 3, true}, {[]int{3}, 3, false},
+		{[]int{0, 1, 2}, 3, true}, {[]int{0, 2}, 3, true}, {[]int{1, 1}, 3, false}, {[]int{2, 1}, 3, false}, {[]int{0, 3}, 3, false}, {[]int{0, 1, 0}, 3, false},
+		{[]int{math.MinInt}, 3, false}, {[]int{0, math.MaxInt}, 3, false}, {[]int{math.MaxInt - 1}, math.MaxInt, true},
+	} {
+		if got := lists.RisesBelow(x.list, x.end); got != x.want {
+			t.Errorf("RisesBelow of %v, %d: %v", x.list, x.end, got)
+		}
 	}
 }
 

@@ -1,7 +1,6 @@
 package mask
 
 import (
-	"iter"
 	"slices"
 
 	"glister/api"
@@ -99,35 +98,7 @@ func (c choices) without(left []int) choices {
 
 // leave returns the smallest set.
 func (c choices) leave() []int {
-	var found []int
 	// Without any records there is an assignment, so some list is found.
-search:
-	for many := range len(c) + 1 {
-		for list := range rising(many, len(c)) {
-			if c.without(list).possible() {
-				found = list
-				break search
-			}
-		}
-	}
-	return found
-}
-
-// rising yields all increasing lists of so many numbers below the end, in lexicographic order.
-func rising(many, end int) iter.Seq[[]int] {
-	return func(yield func([]int) bool) {
-		var add func(list []int, next int) bool
-		add = func(list []int, next int) bool {
-			if len(list) == many {
-				return yield(list)
-			}
-			for n := next; n < end; n++ {
-				if !add(append(slices.Clone(list), n), n+1) {
-					return false
-				}
-			}
-			return true
-		}
-		add(nil, 0)
-	}
+	left, _ := lists.Shortest(len(c), func(left []int) bool { return c.without(left).possible() })
+	return left
 }
